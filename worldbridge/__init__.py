@@ -1,0 +1,1 @@
+"""Worldbridge: letters carried from world to world."""
