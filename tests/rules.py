@@ -2,8 +2,13 @@
 
 Where a rule allows more than the package uses, the check is narrower than the
 rule: operators, properties, class values, sets, generators, lambdas, nested
-functions, annotations and the like are faults here. So what passes keeps the
-rules; whoever needs more widens a check as far as its rule goes.
+functions, annotations and the like are faults here. Whoever needs more widens
+a check as far as its rule goes.
+
+Each rule has a check, but not all of each rule is checked. Left to the reader:
+recursion through other functions (L11), what becomes a key (L24), how many
+arguments builtins and methods are passed (L22), literal values of keywords
+(L22), f-strings over two lines (L27), all names of Python's frames (L17).
 """
 
 import ast
