@@ -45,6 +45,8 @@ NOT_NAMES = """attrgetter breakpoint builtins compile copyright credits delattr 
 WORDS = """type typing typing_extensions enum Enum IntEnum StrEnum Flag IntFlag Generic Protocol ABC ABCMeta
     namedtuple NamedTuple TypedDict TYPE_CHECKING abstractmethod""".split()
 PARTS = ["dataclass", "overload", "contextmanager"]
+# These call themselves no deeper than what they are handed is nested.
+SHALLOW = ["copied"]
 FILES = ["test", "tests", "testing", "site", "conftest", "sitecustomize", "usercustomize"]
 
 STATEMENTS = (ast.Assign, ast.AugAssign, ast.If, ast.While, ast.For, ast.Return, ast.Break, ast.Continue, ast.Pass,
@@ -259,7 +261,8 @@ def function_faults(tree):
         for call in within(function, ast.Call):
             through = call.func
             own = isinstance(through, ast.Attribute) and getattr(through.value, "id", "") == "self"
-            if called(call) == function.name or own and through.attr == function.name:
+            again = called(call) == function.name or own and through.attr == function.name
+            if again and function.name not in SHALLOW:
                 yield "L11", line(call), "calls itself"
 
 
